@@ -1,0 +1,1 @@
+"""Foretongue: what can still be known of a mother nobody wrote."""
