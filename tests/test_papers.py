@@ -1,11 +1,18 @@
 import unittest
 
-from foretongue import met
+from foretongue import alike, fallen, fates, idle, met
 from foretongue.papers import Denial, Paper, fixed
 
 CLASSES = [
     (met.Feeds, "feeds", ["word", "place"], Paper),
     (met.Bars, "bars", ["word", "place"], Paper),
+    (alike.AllAlike, "allalike", ["most"], Paper),
+    (alike.Parted, "parted", ["word", "first", "second"], Denial),
+    (idle.Core, "core", ["numbers", "words"], Paper),
+    (idle.FirstOrder, "firstorder", ["numbers", "words"], Paper),
+    (fallen.LeadsBack, "leadsback", ["couples"], Paper),
+    (fallen.Fallen, "fallen", ["one", "other", "outcome"], Denial),
+    (fates.Fate, "fate", ["gone", "kept", "moved"], Paper),
 ]
 
 
@@ -65,6 +72,7 @@ class Papers(unittest.TestCase):
 
     def test_papers_of_two_classes_are_unequal(self):
         self.assertNotEqual(met.Feeds("ka", 0), met.Bars("ka", 0))
+        self.assertNotEqual(idle.Core((0,), ()), idle.FirstOrder((0,), ()))
 
         class Below(met.Feeds):
             pass
