@@ -1,17 +1,12 @@
 """Which values are right papers of what falls together."""
 
-from foretongue.checks import is_list, is_long_word, of_stock
+from foretongue.checks import is_list, of_stock
 from foretongue.courses import long_outcome, need_course
 from foretongue.fallen import Fallen, LeadsBack
 from foretongue.fates import Distinction, Fate, need_distinction, sort_of_pair
 from foretongue.needs import need_stock
 from foretongue.papers import is_called
 from foretongue.rooms import Rooms, is_couple, need_rooms
-
-
-def is_long_word_of(value, stock):
-    """Whether a value is a long word of the stock."""
-    return is_long_word(value) and of_stock(value, stock)
 
 
 def is_shut(course, stock, couples):
@@ -30,9 +25,7 @@ def is_shut(course, stock, couples):
 
 def have_fallen(course, stock, value):
     """Whether a Fallen has two unlike long words, the lesser first, with its outcome."""
-    if not is_long_word_of(value.one, stock) or not is_long_word_of(value.other, stock):
-        return False
-    if len(value.one) != len(value.other) or value.one >= value.other:
+    if not of_stock(value.one, stock) or not of_stock(value.other, stock) or value.one >= value.other:
         return False
     outcome = long_outcome(course, value.one)
     return outcome == value.outcome and outcome == long_outcome(course, value.other)
@@ -52,10 +45,9 @@ def shows_fallen(course, stock, value):
 
 def is_pair_of(stock, sound, other, value):
     """Whether a value is a pair of long words of the stock with the two sounds at one place."""
-    if not is_list(value) or len(value) != 2 or not all([is_long_word_of(word, stock) for word in value]):
+    if not is_list(value) or len(value) != 2 or not all([of_stock(word, stock) for word in value]):
         return False
-    unlike = [(mine, its) for mine, its in zip(value[0], value[1]) if mine != its]
-    return len(value[0]) == len(value[1]) and unlike == [(sound, other)]
+    return [(mine, its) for mine, its in zip(value[0], value[1]) if mine != its] == [(sound, other)]
 
 
 def is_fate(course, stock, distinction, value):

@@ -68,5 +68,5 @@ def first_twice(values):
 
 
 def of_stock(word, stock):
-    """Whether a word has sounds of a stock alone."""
+    """Whether a word, however long, has sounds of a stock alone; False for what is none."""
     return is_long_word(word) and isinstance(stock, str) and all([sound in stock for sound in word])

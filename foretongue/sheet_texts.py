@@ -5,6 +5,7 @@ from foretongue.checks import is_name
 from foretongue.errors import BadText
 from foretongue.texts import item_at
 
+GAP = "."
 MOST_LANGUAGES = 4
 MOST_ROWS = 6
 MOST_PLACES = 12
@@ -40,7 +41,7 @@ def row_from(items, at, many, room):
     row = []
     for index in range(many):
         item = item_at(items, at + index)
-        cell = None if item == "." else item
+        cell = None if item == GAP else item
         if not fits_in_row(cell, row, many, room):
             raise BadText(0, at + index)
         row.append(cell)

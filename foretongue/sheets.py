@@ -3,7 +3,7 @@
 from foretongue.cells import has_cell, is_cell, is_even, is_row, width_of
 from foretongue.checks import first_twice, is_list, is_name, is_numbers, is_within
 from foretongue.errors import BadNumber, BadSheet, Misfit, NoLanguage, NoPlace, NoRow, TooMany, Twice
-from foretongue.sheet_texts import MOST_LANGUAGES, MOST_PLACES, MOST_ROWS, sheet_items_from
+from foretongue.sheet_texts import GAP, MOST_LANGUAGES, MOST_PLACES, MOST_ROWS, sheet_items_from
 from foretongue.texts import items_of
 
 
@@ -22,14 +22,9 @@ def need_once(values):
 
 def need_rows(rows, many):
     """BadSheet for what is no list of one or more rows, none of gaps alone."""
-    if not is_list(rows) or len(rows) == 0 or not all([is_row(row, many) for row in rows]):
+    if not is_list(rows) or len(rows) == 0:
         raise BadSheet("rows")
-    need_no_blank(rows)
-
-
-def need_no_blank(rows):
-    """BadSheet if a row has gaps alone."""
-    if not all([has_cell(row) for row in rows]):
+    if not all([is_row(row, many) and has_cell(row) for row in rows]):
         raise BadSheet("rows")
 
 
@@ -79,6 +74,11 @@ def gaps_in(languages, rows):
     ])
 
 
+def row_text(row):
+    """The items of a row in the text of a sheet."""
+    return " ".join([GAP if cell is None else cell for cell in row])
+
+
 class Sheet:
     """Languages, and rows in which each of them has a cell or a gap."""
 
@@ -99,10 +99,7 @@ class Sheet:
         return self.languages == other.languages and self.rows == other.rows
 
     def __str__(self):
-        rows = [" ".join(["." if cell is None else cell for cell in row]) for row in self.rows]
-        languages = " ".join(self.languages)
-        cells = " / ".join(rows)
-        return f"{languages} : {cells}"
+        return " : ".join([" ".join(self.languages), " / ".join([row_text(row) for row in self.rows])])
 
     def cell(self, row, language):
         """The cell of a language in a row, None for a gap."""
@@ -159,9 +156,7 @@ class Sheet:
             need_language(self, language)
         need_once(languages)
         indices = [self.languages.index(language) for language in languages]
-        rows = [[row[index] for index in indices] for row in self.rows]
-        need_no_blank(rows)
-        return Sheet(languages, rows)
+        return Sheet(languages, [[row[index] for index in indices] for row in self.rows])
 
     def with_cell(self, row, language, cell):
         """The sheet with a cell, or a gap, in the place of what stands there."""
@@ -173,7 +168,6 @@ class Sheet:
             raise Misfit("places")
         rows = [list(cells) for cells in self.rows]
         rows[row][self.languages.index(language)] = cell
-        need_no_blank(rows)
         return Sheet(self.languages, rows)
 
     def with_row(self, cells):

@@ -5,6 +5,9 @@ from foretongue.errors import BadShift, BadText
 from foretongue.needs import need_sound, need_word
 from foretongue.texts import item_at, items_of, need_end
 
+# The items of an empty new sound, and of a side that is None, in the text of a shift.
+DROPPED = "-"
+ANYTHING = "*"
 # What stands between the values of a shift in its text; the values have an empty string here.
 MARKS = ("", ">", "", "/", "", "_", "")
 
@@ -14,6 +17,11 @@ def is_side(value):
     if not isinstance(value, str) or value == "":
         return False
     return is_long_word(value.removeprefix("#")) and is_rising(value)
+
+
+def side_text(side):
+    """The item of a side in the text of a shift."""
+    return ANYTHING if side is None else side
 
 
 def exchanged(signs, one, other):
@@ -92,10 +100,7 @@ class Shift:
         return self.left == other.left and self.right == other.right
 
     def __str__(self):
-        new = "-" if self.falls else self.new
-        left = "*" if self.left is None else self.left
-        right = "*" if self.right is None else self.right
-        return f"{self.old} > {new} / {left} _ {right}"
+        return f"{self.old} > {self.new or DROPPED} / {side_text(self.left)} _ {side_text(self.right)}"
 
     def changes(self, word):
         """The tuple of the places of a word that the shift changes, ascending."""
@@ -133,9 +138,9 @@ def can_stand(items, at, step):
     if step == 0:
         return is_sound(item)
     if step == 2:
-        return item == "-" or (is_sound(item) and item != items[at - 2])
+        return item == DROPPED or (is_sound(item) and item != items[at - 2])
     if step == 4 or step == 6:
-        return item == "*" or is_side(item)
+        return item == ANYTHING or is_side(item)
     return item == MARKS[step]
 
 
@@ -149,7 +154,7 @@ def shift_from(items, at):
     right = items[at + 6]
     return Shift(
         items[at],
-        "" if new == "-" else new,
-        None if left == "*" else left,
-        None if right == "*" else right,
+        "" if new == DROPPED else new,
+        None if left == ANYTHING else left,
+        None if right == ANYTHING else right,
     )

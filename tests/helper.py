@@ -5,6 +5,7 @@ from random import Random
 
 from foretongue import errors
 from foretongue.courses import Course
+from foretongue.papers import Denial, Paper
 from foretongue.shifts import Shift
 
 
@@ -114,6 +115,15 @@ def bent_parts(parts):
                 yield ahead + (bent,) + behind
         if at + 1 < len(parts):
             yield tuple(parts[:at]) + (parts[at + 1], part) + tuple(parts[at + 2:])
+
+
+def strangers(made, *parts):
+    """Values that look like a paper, but are not made by calling its class."""
+    below = type("Below" + made.__name__, (made,), {})
+    stranger = type(made.__name__, (), {})()
+    vars(stranger).update(vars(made(*parts)))
+    kind = made.__name__.lower()
+    return [below(*parts), stranger, Paper(kind, *parts), Denial(kind, *parts), made, parts, list(parts), kind]
 
 
 def lists_for_tuples(value):

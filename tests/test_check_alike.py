@@ -4,9 +4,9 @@ from foretongue.alike import AllAlike, Parted, same_on_all
 from foretongue.check_alike import shows_alike, shows_core, shows_first
 from foretongue.courses import Course
 from foretongue.idle import Core, FirstOrder, first_alike, least_course
-from foretongue.papers import Denial, Paper
 from foretongue.shifts import Shift
-from tests.helper import ODD, bent_parts, chances, error_of, lists_for_tuples, plain_outcome, plain_words, some_course
+from tests.helper import (ODD, bent_parts, chances, error_of, lists_for_tuples, plain_outcome, plain_words, some_course,
+                          strangers)
 from tests.test_idle import course_of, first_of, plain_lots, plain_orders
 
 
@@ -101,19 +101,13 @@ class CheckAlike(unittest.TestCase):
         parted, core = Parted("ku", "ki", "ci"), least_course(self.three, "iku")
         first = first_alike(self.three, "iku")
 
-        class Below(Parted):
-            pass
-
-        class BelowCore(Core):
-            pass
-
-        others = ODD + [Paper("allalike", 5), Denial("parted", "ku", "ki", "ci"), Below("ku", "ki", "ci"), Parted,
-                        ("ku", "ki", "ci"), BelowCore(*core.parts)]
-        for value in others + [core, first]:
+        for value in ODD + [core, first] + strangers(Parted, *parted.parts):
             self.assertIs(shows_alike(self.one, self.other, "iku", value), False)
-        for value in others + [parted, first, Paper("core", *core.parts)]:
+        for value in ODD + [core, first] + strangers(AllAlike, 5):
+            self.assertIs(shows_alike(self.one, self.other, "ik", value), False)
+        for value in ODD + [parted, first] + strangers(Core, *core.parts):
             self.assertIs(shows_core(self.three, "iku", value), False)
-        for value in others + [parted, core, FirstOrder((0,), ())]:
+        for value in ODD + [parted, core, FirstOrder((0,), ())] + strangers(FirstOrder, *first.parts):
             self.assertIs(shows_first(self.three, "iku", value), False)
 
     def test_wrong(self):

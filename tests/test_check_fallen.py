@@ -4,10 +4,9 @@ from foretongue.check_fallen import shows_fallen, shows_fate
 from foretongue.courses import Course
 from foretongue.fallen import Fallen, LeadsBack, fallen
 from foretongue.fates import Fate, fate
-from foretongue.papers import Denial, Paper
 from foretongue.shifts import Shift
 from tests.helper import (ODD, bent_parts, chances, error_of, lists_for_tuples, plain_outcome, plain_words, some_course,
-                          some_shift)
+                          some_shift, strangers)
 from tests.test_fallen import some_even_course
 from tests.test_fates import all_pairs, plain_sort
 from tests.test_rooms import plain_couples, plain_first, plain_next, plain_rest, plain_rooms
@@ -113,6 +112,17 @@ class CheckFallen(unittest.TestCase):
             fewer = [other for other in right if other != couple]
             self.assertIs(shows_fallen(course, "ik", LeadsBack(fewer)), is_shut(course, "ik", tuple(fewer)))
 
+    def test_a_step_is_missing(self):
+        missing = 0
+        for course, stock in [(Course([Shift("x", "a")] * 2), "ab"), (Course([Shift("b", "x", None, "#")]), "ab"),
+                              (Course([Shift("a", "x", "b"), Shift("x", "a", None, "#")]), "ab")]:
+            right, begin = fallen(course, stock).couples, plain_first(course, stock)
+            for couple in right:
+                fewer = tuple(other for other in right if other != couple)
+                missing += couple not in begin and not is_shut(course, stock, fewer)
+                self.assertIs(shows_fallen(course, stock, LeadsBack(fewer)), is_shut(course, stock, fewer))
+        self.assertGreater(missing, 5)
+
     def test_what_does_not_lead_back(self):
         for chance in chances(710, 15):
             course = some_even_course(chance, "abc", 1)
@@ -124,16 +134,10 @@ class CheckFallen(unittest.TestCase):
     def test_any_other_value(self):
         course = Course([Shift("k", "c", None, "i")])
 
-        class Below(Fallen):
-            pass
-
-        class BelowBack(LeadsBack):
-            pass
-
         right = fallen(course, "ik")
-        for value in ODD + [Denial("fallen", "ci", "ki", "ci"), Paper("leadsback", right.couples), Fallen, LeadsBack,
-                            ("ci", "ki", "ci"), Below("ci", "ki", "ci"), BelowBack(right.couples), Fate(None, None, None)]:
+        for value in ODD + strangers(LeadsBack, right.couples) + [Fate(None, None, None)]:
             self.assertIs(shows_fallen(course, "ik", value), False)
+        for value in ODD + strangers(Fallen, "ci", "ki", "ci") + [right]:
             self.assertIs(shows_fallen(course, "cik", value), False)
         for value in ODD:
             if value not in ([], ()):
@@ -185,10 +189,7 @@ class CheckFate(unittest.TestCase):
         low = Course([Shift("k", "c", None, "e"), Shift("e", "i")])
         right = fate(low, "eik", "e", "i")
 
-        class Below(Fate):
-            pass
-
-        for value in ODD + [Paper("fate", *right.parts), right.parts, Below(*right.parts), Fallen("e", "i", "i"), Fate]:
+        for value in ODD + [Fallen("e", "i", "i")] + strangers(Fate, *right.parts):
             self.assertIs(shows_fate(low, "eik", "e", "i", value), False)
         self.assertIs(shows_fate(low, "eik", "i", "e", right), False)
 

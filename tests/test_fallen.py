@@ -84,6 +84,16 @@ class FallsTogether(unittest.TestCase):
         self.assertEqual(fallen(course, "ab"), Fallen("ab", "ba", "cb"))
         self.assertEqual(falls_at(course, "ab"), 2)
 
+    def test_the_least_of_several(self):
+        for text, stock, wanted in [
+                ("a > c / #c _ * ; b > c / * _ ab ; b > a / * _ #b", "ab", ("aa", "ab", "ca")),
+                ("b > c / * _ ac ; a > c / bc _ #a", "abc", ("ba", "bc", "cc")),
+                ("b > a / #abc _ c ; a > b / a _ *", "abc", ("aa", "ab", "ab")),
+                ("a > c / # _ ac ; a > b / * _ bc", "abc", ("aa", "ca", "ca"))]:
+            course = Course.read(text)
+            self.assertEqual(least_fallen(course, stock, 3), wanted[:2])
+            self.assertEqual(fallen(course, stock), Fallen(*wanted))
+
     def test_no_two_words(self):
         self.assertEqual(fallen(Course([Shift("a", "b")] * 6), "a"), LeadsBack(()))
         self.assertEqual(fallen(Course([]), "abcde"), LeadsBack(()))

@@ -59,6 +59,14 @@ class Fates(unittest.TestCase):
         for sort in ("gone", "kept", "moved"):
             self.assertIn(sort, sorts)
 
+    def test_the_least_of_several(self):
+        for text, stock, sounds in [("a > b / * _ b ; b > a / #ac _ * ; b > a / * _ #ac", "ab", "ab"),
+                                    ("b > c / #ac _ # ; b > x / * _ ac", "abc", "bc"),
+                                    ("c > b / abc _ # ; b > a / #bc _ #bc", "abc", "ba"),
+                                    ("d > c / ad _ #d", "abcd", "dc")]:
+            course = Course.read(text)
+            self.assertEqual(fate(course, stock, *sounds), plain_fate(course, stock, *sounds))
+
     def test_turned_about(self):
         for chance in chances(610, 20):
             course = some_course(chance, "abc", 2)

@@ -1,9 +1,9 @@
 import unittest
 
 from foretongue.met import Bars, Feeds, bars, feeds, shows_met
-from foretongue.papers import Paper
 from foretongue.shifts import Shift
-from tests.helper import ODD, bent_parts, chances, error_of, plain_changes, plain_done, plain_words, some_shift
+from tests.helper import (ODD, bent_parts, chances, error_of, plain_changes, plain_done, plain_words, some_shift,
+                          strangers)
 
 
 def places_met(one, other, word, is_fed):
@@ -30,9 +30,9 @@ class Met(unittest.TestCase):
                     self.assertEqual(found, None if wanted is None else made(*wanted))
 
     def test_a_word_of_five_sounds(self):
-        one, other = Shift("a", "b", "c", "d"), Shift("e", "f", "d", "b")
-        self.assertIsNone(feeds(one, other, "abc"))
-        self.assertEqual(feeds(one, other, "abcde"), None)
+        self.assertIsNone(feeds(Shift("a", "b", "c", "d"), Shift("e", "f", "d", "b"), "abcde"))
+        one, other = Shift("a", "b", "c", "c"), Shift("c", "d", "b", "b")
+        self.assertEqual(feeds(one, other, "ac"), Feeds("cacac", 2))
         self.assertEqual(feeds(Shift("a", "b", "c", "d"), Shift("d", "e", "b", "c"), "acd"), Feeds("cadc", 2))
         self.assertEqual(bars(Shift("a", "b", "c", "d"), Shift("d", "e", "a", "c"), "acd"), Bars("cadc", 2))
 
@@ -61,18 +61,20 @@ class Met(unittest.TestCase):
         self.assertIs(shows_met(one, other, "iku", Feeds("kukkkkkkkkkuu", 0)), False)
         self.assertIs(shows_met(one, other, "aiku", Feeds("kua", 0)), True)
         self.assertIs(shows_met(one, other, "iku", Feeds("kua", 0)), False)
-        for parts in bent_parts(("kuku", 0)):
-            if len(parts) == 2:
-                kinds = [type(part) for part in parts] == [str, int]
-                wanted = kinds and parts[1] in places_met(one, other, parts[0], True) and set(parts[0]) <= set("iku")
-                self.assertIs(shows_met(one, other, "iku", Feeds(*parts)), wanted, parts)
-        for value in ODD + [Paper("feeds", "ku", 0), Bars("ku", 0), ("ku", 0), Feeds]:
+        for value in ODD + [Bars("ku", 0), Shift("a", "b")]:
             self.assertIs(shows_met(one, other, "iku", value), False)
-
-        class Below(Feeds):
-            pass
-
-        self.assertIs(shows_met(one, other, "iku", Below("ku", 0)), False)
+        for made, first, word in [(Feeds, one, "kuku"), (Bars, Shift("i", "u"), "kiki")]:
+            right = made(word, 0)
+            self.assertIs(shows_met(first, other, "iku", right), True)
+            self.assertIs(shows_met(first, other, "ik" if made is Feeds else "ku", right), False)
+            for parts in bent_parts((word, 0)):
+                if len(parts) == 2:
+                    kinds = [type(part) for part in parts] == [str, int]
+                    wanted = kinds and set(parts[0]) <= set("iku")
+                    wanted = wanted and parts[1] in places_met(first, other, parts[0], made is Feeds)
+                    self.assertIs(shows_met(first, other, "iku", made(*parts)), wanted, parts)
+            for value in strangers(made, word, 0):
+                self.assertIs(shows_met(first, other, "iku", value), False)
 
     def test_wrong(self):
         shift, drop = Shift("a", "b"), Shift("a", "")

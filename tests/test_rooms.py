@@ -121,7 +121,7 @@ class Rooms(unittest.TestCase):
     def test_wrong_couples(self):
         one = Course([Shift("a", "b")])
         odd = [("ab", "aa"), ("#", "aa"), ("#a", "aa"), ("#", "#a"), ("a", "b"), ("aa", "ac"), ("aa",), ("aa", "ab", "bb"),
-               "ab", ("#b", "#a"), ["aa", None], [1, 2], ("aaa", "aab"), "##", {"aa": 1, "ab": 2}, ("#ab", "#ab")]
+               "ab", ("#b", "#a"), ["aa", None], [1, 2], ("aaa", "aab"), "##", {"aa": 1, "ab": 2}, ("#ab", "#ab"), ("#a", "#z")]
         for call in (next_couples, ends_alike):
             for value in ODD:
                 self.assertEqual(error_of(call, value, value, value), ("BadCourse", ("course",)))
@@ -129,6 +129,8 @@ class Rooms(unittest.TestCase):
                 self.assertEqual(error_of(call, DROP, "abcde", value), ("BadPairs", ("couple",)))
             for value in odd:
                 self.assertEqual(error_of(call, one, "ab", value), ("BadPairs", ("couple",)))
+            for value in [("ab", "bb"), ("bb", "bd"), ("#a", "#b"), ("#b", "#d")]:
+                self.assertEqual(error_of(call, one, "bc", value), ("BadPairs", ("couple",)))
             self.assertEqual(error_of(call, DROP, "abcde", ("#", "#")), ("BadCourse", ("falls",)))
             self.assertEqual(error_of(call, Course(one.shifts * 2), "abcd", ("#", "#")), ("TooMany", ("rooms", 100)))
             for couple in [("#", "#"), ["#a", "#b"], ("aa", "aa"), ("ab", "ba")]:
