@@ -154,7 +154,6 @@ class Sheet:
         need_names(languages)
         for language in languages:
             need_language(self, language)
-        need_once(languages)
         indices = [self.languages.index(language) for language in languages]
         return Sheet(languages, [[row[index] for index in indices] for row in self.rows])
 

@@ -120,6 +120,7 @@ class Exchanges(unittest.TestCase):
                 self.assertEqual(error_of(can_exchange, two, value, value), ("NoShift", (value,)))
         for number in [1, 2, -1, True, False, None, "0"]:
             self.assertEqual(error_of(can_exchange, two, number, "a"), ("NoShift", (number,)))
+            self.assertEqual(error_of(can_exchange, two, number, "ba"), ("NoShift", (number,)))
         for course in (Course([]), Course(FOUR.shifts[:1])):
             self.assertEqual(error_of(can_exchange, course, 0, "a"), ("NoShift", (0,)))
             self.assertEqual(exchanges(course, "a"), ())
