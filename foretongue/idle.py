@@ -1,9 +1,10 @@
 """Which shifts of a course do nothing, and which orders of them do the same."""
 
-from itertools import combinations, permutations
+from itertools import permutations
 
 from foretongue.alike import are_alike, least_parting, need_bounds
 from foretongue.courses import Course, need_course
+from foretongue.lots import lots_below
 from foretongue.needs import need_stock
 from foretongue.papers import Paper
 
@@ -36,17 +37,9 @@ def course_of(course, numbers):
     return Course([course.shifts[number] for number in numbers])
 
 
-def lots_of_size(many, size):
-    """All lots of so many of the numbers below many, as tuples compare."""
-    return list(combinations(range(many), int(size)))
-
-
 def all_lots(course):
     """All lots of the shifts of a course: fewer numbers first, then as tuples compare."""
-    lots = []
-    for size in range(len(course) + 1):
-        lots.extend(lots_of_size(len(course), size))
-    return lots
+    return lots_below(len(course))
 
 
 def keeps_equal(course, numbers):

@@ -40,6 +40,19 @@ def need_sizes(languages, rows):
         raise TooMany("places", MOST_PLACES)
 
 
+def need_sheet(value, part):
+    """BadSheet for what is no sheet."""
+    if not isinstance(value, Sheet):
+        raise BadSheet(part)
+
+
+def need_whole(value, part):
+    """BadSheet for what is no sheet, or has gaps."""
+    need_sheet(value, part)
+    if not value.is_whole:
+        raise BadSheet("gaps")
+
+
 def need_row(sheet, row):
     """NoRow for what is no number of a row of the sheet."""
     if not is_within(row, 0, len(sheet.rows) - 1):
@@ -50,6 +63,12 @@ def need_language(sheet, language):
     """NoLanguage for what is no language of the sheet."""
     if not isinstance(language, str) or language not in sheet.languages:
         raise NoLanguage(language)
+
+
+def need_place(sheet, place):
+    """NoPlace for what is no number of a place of the sheet."""
+    if not is_within(place, 0, len(sheet.places) - 1):
+        raise NoPlace(place)
 
 
 def need_different_rows(sheet, rows):
@@ -121,8 +140,7 @@ class Sheet:
 
     def column(self, place):
         """The column row of a place, told by its number."""
-        if not is_within(place, 0, len(self.places) - 1):
-            raise NoPlace(place)
+        need_place(self, place)
         row, index = self.places[place]
         return tuple([None if cell is None else cell[index] for cell in self.rows[row]])
 
@@ -177,8 +195,7 @@ class Sheet:
 
     def joined(self, other):
         """The sheet with the languages of another one behind."""
-        if not isinstance(other, Sheet):
-            raise BadSheet("other")
+        need_sheet(other, "other")
         for language in other.languages:
             if language in self.languages:
                 raise Twice(language)

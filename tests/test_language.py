@@ -135,6 +135,14 @@ class Language(unittest.TestCase):
                     self.assertNotIn(name, barred, path)
                 self.assertFalse(name.startswith("__"), (path, name))
 
+    def test_names_of_functions_and_classes_stand_once(self):
+        places = {}
+        for path, tree in trees():
+            for node in tree.body:
+                if isinstance(node, (ast.FunctionDef, ast.ClassDef)):
+                    self.assertNotIn(node.name, places, (path, places.get(node.name)))
+                    places[node.name] = path
+
     def test_no_other_syntax(self):
         barred = (ast.Global, ast.Nonlocal, ast.AsyncFunctionDef, ast.GeneratorExp, ast.Yield, ast.YieldFrom, ast.Try,
                   ast.With, ast.Match, ast.NamedExpr, ast.AnnAssign, ast.Div, ast.MatMult, ast.Delete)
