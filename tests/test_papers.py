@@ -1,6 +1,6 @@
 import unittest
 
-from foretongue import alike, fallen, fates, idle, met
+from foretongue import alike, answers, befores, fallen, fates, idle, met, orders, refusing, sureties, ways, zero
 from foretongue.papers import Denial, Paper, fixed
 
 CLASSES = [
@@ -13,6 +13,27 @@ CLASSES = [
     (fallen.LeadsBack, "leadsback", ["couples"], Paper),
     (fallen.Fallen, "fallen", ["one", "other", "outcome"], Denial),
     (fates.Fate, "fate", ["gone", "kept", "moved"], Paper),
+    (zero.ZeroMother, "zeromother", ["dyeing", "columns"], Paper),
+    (zero.Telling, "telling", ["languages", "pairs"], Paper),
+    (refusing.Mother, "mother", ["dyeing"], Paper),
+    (refusing.Least, "least", ["dyeing", "tree"], Paper),
+    (refusing.NoMother, "nomother", ["tree"], Denial),
+    (refusing.Barring, "barring", ["rows", "tree", "others"], Denial),
+    (answers.Sure, "sure", ["tree"], Paper),
+    (answers.Open, "open", ["one", "other"], Paper),
+    (answers.Never, "never", ["tree"], Denial),
+    (answers.AtOnce, "atonce", ["dyeing"], Paper),
+    (answers.Clash, "clash", ["numbers", "tree", "others"], Denial),
+    (sureties.Rows, "rows", ["rows", "tree", "others"], Paper),
+    (orders.Fits, "fits", ["order"], Paper),
+    (orders.NoOrder, "noorder", ["numbers"], Denial),
+    (befores.Ahead, "ahead", ["numbers"], Paper),
+    (befores.Behind, "behind", ["numbers"], Denial),
+    (befores.Either, "either", ["first", "second"], Paper),
+    (befores.AllKept, "allkept", ["pairs"], Paper),
+    (befores.Loose, "loose", ["pairs", "order"], Denial),
+    (ways.OneWay, "oneway", ["orders"], Paper),
+    (ways.TwoWays, "twoways", ["first", "second", "word"], Denial),
 ]
 
 
