@@ -29,7 +29,7 @@ def is_telling(sheet, value):
     columns = columns_of(sheet)
     lots = lots_below(len(sheet.languages))
     sets = [tuple([sheet.languages[index] for index in lot]) for lot in lots]
-    if not is_list(value.languages) or value.languages not in sets or not is_list(value.pairs):
+    if value.languages not in sets or not is_list(value.pairs):
         return False
     at = sets.index(value.languages)
     if len(value.pairs) != at or len(pairs_not_parted(columns, lots[at])) > 0:

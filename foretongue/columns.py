@@ -1,6 +1,6 @@
 """The column rows of whole sheets, and which places are akin by them."""
 
-from foretongue.sheets import need_place, need_whole
+from foretongue.sheets import need_whole
 
 NOTHING_LEFT = "-"
 
@@ -20,8 +20,6 @@ def are_akin_columns(one, other):
 def are_akin(sheet, place, other):
     """Whether two places of a whole sheet are akin."""
     need_whole(sheet, "sheet")
-    need_place(sheet, place)
-    need_place(sheet, other)
     return are_akin_columns(sheet.column(place), sheet.column(other))
 
 

@@ -41,6 +41,13 @@ def long_outcome(course, word):
     return done_line(course, line_of([word]))[1:-1]
 
 
+def shifts_text(shifts):
+    """The items of some shifts, one behind another, in a text."""
+    if len(shifts) == 0:
+        return "-"
+    return " ; ".join([str(shift) for shift in shifts])
+
+
 class Course:
     """A course of at most six shifts, perhaps none."""
 
@@ -60,9 +67,7 @@ class Course:
         return isinstance(other, Course) and self.shifts == other.shifts
 
     def __str__(self):
-        if len(self.shifts) == 0:
-            return "-"
-        return " ; ".join([str(shift) for shift in self.shifts])
+        return str(shifts_text(self.shifts))
 
     def done(self, word):
         """The outcome of a word."""

@@ -3,7 +3,7 @@
 from foretongue.checks import first_twice, is_list, is_name, is_numbers, is_within
 from foretongue.columns import columns_of, pairs_of_places
 from foretongue.dyeings import need_dyed_sheet, need_mother, surroundings_of
-from foretongue.errors import BadFamily, BadNumber, BadText, TooMany, Twice
+from foretongue.errors import BadFamily, BadNumber, BadText, TooMany
 from foretongue.sheets import need_once
 from foretongue.texts import item_at, items_of, need_end
 
@@ -25,7 +25,7 @@ def is_sharing(value, languages):
     """Whether a value is a list of two or more different ones of some languages."""
     if not is_list(value) or len(value) < 2:
         return False
-    return all([is_name(name) and name in languages for name in value]) and first_twice(value) is None
+    return all([name in languages for name in value]) and first_twice(value) is None
 
 
 def need_sharings(sharings, languages):
@@ -72,8 +72,6 @@ class Family:
         if not is_name(language):
             raise BadFamily("language")
         need_sharing_numbers(self, numbers)
-        if language in self.languages:
-            raise Twice(language)
         sharings = [
             [*sharing, language] if number in numbers else sharing
             for number, sharing in enumerate(self.sharings)

@@ -63,7 +63,9 @@ def is_barred_by(grounds, sounds, pair):
 
 def least_barring(grounds, dyeing):
     """The least pair of places that bar a dyeing, None for a mother."""
-    for pair in grounds.needs:
-        if are_all_alike(dyeing, grounds.needs[pair]):
+    for pair, pairs in grounds.needs.items():
+        place, other = pair
+        # Most pairs are unlike themselves: they are not asked for more.
+        if dyeing[place] == dyeing[other] and are_all_alike(dyeing, pairs):
             return pair
     return None

@@ -1,7 +1,7 @@
 """Mothers: dyeings of a whole sheet that no two places bar."""
 
 from foretongue.columns import columns_of, pairs_of_places
-from foretongue.dyeings import made_one, need_width
+from foretongue.dyeings import many_sounds, need_width
 from foretongue.errors import BadNumber, TooMany
 from foretongue.grounds import Grounds, least_barring
 from foretongue.needs import need_number
@@ -67,8 +67,8 @@ def mother_at(sheet, width, most, number):
 
 def is_coarsest(grounds, dyeing):
     """Whether a mother is none any more, whichever two of its sounds are joined."""
-    for sound, other in pairs_of_places(max(dyeing) + 1):
-        if least_barring(grounds, made_one(dyeing, other, sound)) is None:
+    for sound, other in pairs_of_places(many_sounds(dyeing)):
+        if least_barring(grounds, [sound if number == other else number for number in dyeing]) is None:
             return False
     return True
 

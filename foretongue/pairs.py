@@ -3,7 +3,7 @@
 from itertools import permutations
 
 from foretongue.checks import is_list, is_numbers, is_within, is_word
-from foretongue.courses import ITEMS_OF_SHIFT, Course, need_course
+from foretongue.courses import ITEMS_OF_SHIFT, Course, need_course, shifts_text
 from foretongue.errors import BadPairs, BadShift, BadText, BadWord, TooMany, Twice
 from foretongue.needs import need_word
 from foretongue.sheets import need_once
@@ -92,7 +92,7 @@ class Pairs:
         return isinstance(other, Pairs) and self.shifts == other.shifts and self.pairs == other.pairs
 
     def __str__(self):
-        return f"{Course(self.shifts)} : {pairs_text(self.pairs)}"
+        return f"{shifts_text(self.shifts)} : {pairs_text(self.pairs)}"
 
     def course_by(self, order):
         """The course of an order."""

@@ -2,6 +2,24 @@
 
 from foretongue.sayings import AlikeRows, Both, Not, Same, Sizes
 from foretongue.sheets import Sheet
+from tests.helper import ODD, error_of
+
+GAPS = Sheet(["one", "two"], [["sa", None]])
+NINE = Sheet(["x"], [["a" * 9]])
+WRONG_WIDTHS = [2, -1, True, False, None, 1.0, "1", [1]]
+WRONG_SIZES = [0, 9, -1, True, False, None, 1.0, "1", [1]]
+
+
+def check_errors(case, call, is_sized, more=0):
+    """The errors of a sheet, a width and, if it is sized, a greatest size, ahead of so many other values."""
+    behind = is_sized + more
+    for value in ODD:
+        case.assertEqual(error_of(call, value, value, *[value] * behind), ("BadSheet", ("sheet",)))
+        case.assertEqual(error_of(call, GAPS, value, *[value] * behind), ("BadSheet", ("gaps",)))
+    for value in WRONG_WIDTHS:
+        case.assertEqual(error_of(call, NINE, value, *[value] * behind), ("BadNumber", ("width",)))
+    for value in WRONG_SIZES if is_sized else []:
+        case.assertEqual(error_of(call, NINE, 1, value, *[value] * more), ("BadNumber", ("most",)))
 
 
 def all_dyeings(many):

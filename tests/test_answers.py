@@ -6,8 +6,8 @@ from foretongue.refusing import mother_of
 from foretongue.sayings import AlikeRows, Not, Same, Sizes
 from foretongue.sheets import Sheet
 from tests.helper import ODD, chances, error_of
-from tests.plain_mothers import plain_holds, plain_mothers, plain_right_tree, plain_settled, some_saying, some_whole_sheet
-from tests.test_mothers import GAPS, NINE, WRONG_SIZES
+from tests.plain_mothers import (NINE, check_errors, plain_holds, plain_mothers, plain_right_tree, plain_settled, some_saying,
+                                 some_whole_sheet)
 
 SHEET = Sheet(["one", "two"], [["sa", "sa"], ["si", "zi"]])
 
@@ -30,17 +30,11 @@ def impossible(case, call, sheet, width, most, *told):
     case.assertEqual(caught.exception.paper.kind, "nomother")
 
 
-def errors_of_saying(case, call, wrong, more=()):
+def errors_of_saying(case, call, wrong, more=0):
     """The errors of a sheet, a width, a greatest size and what is told of sayings, in their order."""
-    for value in ODD:
-        case.assertEqual(error_of(call, value, value, value, value, *more), ("BadSheet", ("sheet",)))
-        case.assertEqual(error_of(call, GAPS, value, value, value, *more), ("BadSheet", ("gaps",)))
-    for value in [2, -1, True, False, None, 1.0, "1", [1]]:
-        case.assertEqual(error_of(call, NINE, value, value, None, *more), ("BadNumber", ("width",)))
-    for value in WRONG_SIZES:
-        case.assertEqual(error_of(call, NINE, 1, value, None, *more), ("BadNumber", ("most",)))
+    check_errors(case, call, True, 1 + more)
     for value, part in wrong:
-        case.assertEqual(error_of(call, NINE, 1, 1, value, *more), ("BadSaying", (part,)))
+        case.assertEqual(error_of(call, NINE, 1, 1, value, *[None] * more), ("BadSaying", (part,)))
 
 
 class Answers(unittest.TestCase):

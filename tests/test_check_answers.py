@@ -6,10 +6,9 @@ from foretongue.sayings import AlikeRows, Not, Same, Sizes
 from foretongue.sheets import Sheet
 from foretongue.sureties import Rows, fewest_rows
 from tests.helper import ODD, bent_parts, chances, error_of, lists_for_tuples, strangers
-from tests.plain_mothers import (all_dyeings, is_mother_told, no_end, orders_of_places, plain_holds, plain_mothers,
+from tests.plain_mothers import (NINE, all_dyeings, is_mother_told, no_end, orders_of_places, plain_holds, plain_mothers,
                                  plain_right_tree, plain_tree, some_saying, some_whole_sheet, tuples)
 from tests.test_answers import SHEET, aim, clash_ends, errors_of_saying
-from tests.test_mothers import NINE
 from tests.test_sureties import against, sets_asked, told_on
 
 
@@ -140,14 +139,14 @@ class CheckAnswer(unittest.TestCase):
             self.assertIs(shows_answer(SHEET, 1, 4, Same((0, 0), (1, 0)), value), False)
 
     def test_wrong(self):
-        errors_of_saying(self, shows_answer, [(value, "saying") for value in ODD], (None,))
-        errors_of_saying(self, shows_rows, [(value, "saying") for value in ODD], (None,))
+        errors_of_saying(self, shows_answer, [(value, "saying") for value in ODD], 1)
+        errors_of_saying(self, shows_rows, [(value, "saying") for value in ODD], 1)
         for call in (shows_answer, shows_rows):
             self.assertEqual(error_of(call, NINE, 1, 8, Same((0, 9), (1, 0)), None), ("NoPlace", ((0, 9),)))
             self.assertEqual(error_of(call, NINE, 1, 8, AlikeRows(1, 0), None), ("NoRow", (1,)))
             self.assertIs(call(NINE, 1, 8, Sizes(1), None), False)
         wrong = ODD + [[Sizes(1)] * 7, [Sizes(1), None], Sizes(1)]
-        errors_of_saying(self, shows_at_once, [(value, "sayings") for value in wrong], (None,))
+        errors_of_saying(self, shows_at_once, [(value, "sayings") for value in wrong], 1)
         told = [Sizes(1), AlikeRows(0, 2), Same((0, 9), (1, 0))]
         self.assertEqual(error_of(shows_at_once, NINE, 1, 8, told, None), ("NoRow", (2,)))
 

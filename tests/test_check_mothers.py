@@ -3,10 +3,9 @@ import unittest
 from foretongue.check_mothers import shows_barring, shows_least, shows_mother
 from foretongue.refusing import Barring, Least, Mother, NoMother, barring_rows, least_size, mother_of
 from foretongue.sheets import Sheet
-from tests.helper import ODD, bent_parts, chances, error_of, lists_for_tuples, strangers
-from tests.plain_mothers import (all_dyeings, is_mother_told, is_plain_dyeing, mothers_of_rows, no_end, orders_of_places,
-                                 plain_mothers, plain_right_tree, plain_tree, size, some_whole_sheet, tuples)
-from tests.test_mothers import GAPS, NINE, WRONG_SIZES
+from tests.helper import ODD, bent_parts, chances, lists_for_tuples, strangers
+from tests.plain_mothers import (NINE, all_dyeings, check_errors, is_mother_told, is_plain_dyeing, mothers_of_rows, no_end,
+                                 orders_of_places, plain_mothers, plain_right_tree, plain_tree, size, some_whole_sheet, tuples)
 from tests.test_refusing import lots_of_rows, plain_barring, struck
 
 SHEET = Sheet(["one", "two"], [["sa", "sa"], ["si", "zi"]])
@@ -115,6 +114,15 @@ class CheckMothers(unittest.TestCase):
                         self.assertIs(shows_barring(sheet, width, most, Barring(*bent)), wanted, bent)
         self.assertGreater(bent_ones, 1000)
 
+    def test_one_row_and_none(self):
+        tree = (0, [(1, [(0, 1)])])
+        self.assertIs(shows_barring(SHEET, 1, 1, Barring([0], tree, [[]])), True)
+        for others in [[], [[0]], [[], []], [None], [0], [""], [[1]], 0]:
+            self.assertIs(shows_barring(SHEET, 1, 1, Barring([0], tree, others)), False)
+        for rows in [[], [2], [0, 0], [-1], [True], 0, None]:
+            self.assertIs(shows_barring(SHEET, 1, 1, Barring(rows, tree, [])), False)
+            self.assertIs(shows_barring(SHEET, 1, 1, Barring(rows, tree, [[]])), False)
+
     def test_beyond_eight_places(self):
         sheet = Sheet(["x", "y"], [["abcd", "abcd"], ["efgh", "efgh"], ["ijkl", "ijkl"]])
         every = tuple(range(12))
@@ -131,8 +139,11 @@ class CheckMothers(unittest.TestCase):
 
     def test_any_other_value(self):
         no, least, barring = mother_of(SHEET, 1, 2), least_size(SHEET, 1), barring_rows(SHEET, 1, 2)
-        for value in ODD + strangers(NoMother, no.tree) + strangers(Mother, (0, 1, 0, 2)) + [least, barring]:
+        for value in ODD + strangers(NoMother, no.tree) + [least, barring, Mother((0, 1, 0, 2))]:
             self.assertIs(shows_mother(SHEET, 1, 2, value), False)
+        for value in ODD + strangers(Mother, (0, 1, 0, 2)) + [least, barring, no]:
+            self.assertIs(shows_mother(SHEET, 1, 3, value), False)
+            self.assertIs(shows_barring(SHEET, 1, 3, value), False)
         for value in ODD + strangers(Least, *least.parts) + [Mother((0, 1, 0, 2)), no]:
             self.assertIs(shows_least(SHEET, 1, value), False)
         for value in ODD + strangers(Barring, *barring.parts) + [no, least]:
@@ -150,12 +161,4 @@ class CheckMothers(unittest.TestCase):
 
     def test_wrong(self):
         for call in (shows_mother, shows_least, shows_barring):
-            more = 0 if call is shows_least else 1
-            for value in ODD:
-                self.assertEqual(error_of(call, value, value, *[value] * more, value), ("BadSheet", ("sheet",)))
-                self.assertEqual(error_of(call, GAPS, value, *[value] * more, value), ("BadSheet", ("gaps",)))
-            for value in [2, -1, True, False, None, 1.0, "1", [1]]:
-                self.assertEqual(error_of(call, NINE, value, *[value] * more, value), ("BadNumber", ("width",)))
-            if more:
-                for value in WRONG_SIZES:
-                    self.assertEqual(error_of(call, NINE, 1, value, value), ("BadNumber", ("most",)))
+            check_errors(self, call, call is not shows_least, 1)

@@ -7,7 +7,7 @@ from foretongue.orders import Fits, NoOrder, order_of
 from foretongue.pairs import Pairs
 from foretongue.shifts import Shift
 from foretongue.ways import OneWay, TwoWays, one_way
-from tests.helper import ODD, bent_parts, chances, error_of, lists_for_tuples, plain_words, strangers
+from tests.helper import ODD, bent_parts, error_of, lists_for_tuples, plain_words, strangers
 from tests.plain_mothers import tuples
 from tests.plain_orders import bars, fewest, forces, kept_by, parting_word, plain_firm, plain_made, plain_orders, plain_possible
 from tests.test_orders import HIGH, NO_ORDER, SOFT, THREE, TOLD, told_ones
@@ -77,7 +77,8 @@ class CheckOrder(unittest.TestCase):
             for bent in bent_parts(right.parts):
                 if len(bent) == 1:
                     parts = tuples(bent)
-                    wanted = is_possible(told, parts[0]) if right.kind == "fits" else parts == ((0, 3),) and repr(parts) == "((0, 3),)"
+                    is_fit = right.kind == "fits"
+                    wanted = is_possible(told, parts[0]) if is_fit else repr(parts) == "((0, 3),)"
                     self.assertIs(shows_order(told, type(right)(*bent)), wanted, bent)
 
     def test_any_other_value(self):

@@ -3,9 +3,7 @@ import unittest
 from foretongue.columns import akin_pairs, are_akin
 from foretongue.sheets import Sheet
 from tests.helper import ODD, chances, error_of
-from tests.plain_mothers import plain_akin, some_whole_sheet
-
-GAPS = Sheet(["one", "two"], [["sa", None]])
+from tests.plain_mothers import GAPS, plain_akin, some_whole_sheet
 
 
 class Akin(unittest.TestCase):

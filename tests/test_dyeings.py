@@ -5,9 +5,9 @@ from foretongue.dyeings import (dyeing_of, dyeing_of_rows, is_dyeing, is_mother,
                                 why_no_mother)
 from foretongue.sheets import Sheet
 from tests.helper import ODD, chances, error_of
-from tests.plain_mothers import all_dyeings, barring_pairs, beside, plain_mothers, size, some_whole_sheet
+from tests.plain_mothers import (GAPS, all_dyeings, barring_pairs, beside, check_errors, plain_mothers, size,
+                                 some_whole_sheet)
 
-GAPS = Sheet(["one", "two"], [["sa", None]])
 SHEET = Sheet(["one", "two"], [["sa", "sa"], ["si", "zi"]])
 NONE = [[1], [0, 2], [0, 1, 3], (0, 0, 2), [-1], [0, -1], [0, True], [False], [0, 0.0], ["0"], [None], [[0]], "0", "01", {0: 0},
         list(range(13)), [0] * 13]
@@ -135,11 +135,7 @@ class OfSheets(unittest.TestCase):
     def test_wrong(self):
         for call in (why_no_mother, is_mother, table_of):
             more = (None,) if call is table_of else ()
-            for value in ODD:
-                self.assertEqual(error_of(call, value, value, value, *more), ("BadSheet", ("sheet",)))
-                self.assertEqual(error_of(call, GAPS, value, value, *more), ("BadSheet", ("gaps",)))
-            for value in [2, -1, True, False, None, 1.0, "1", [1]]:
-                self.assertEqual(error_of(call, SHEET, value, value, *more), ("BadNumber", ("width",)))
+            check_errors(self, call, False, 1 + len(more))
             for value in ODD + NONE:
                 if value not in ([], ()):
                     self.assertEqual(error_of(call, SHEET, 1, value, *more), ("BadDyeing", ("dyeing",)))

@@ -4,9 +4,8 @@ from itertools import combinations
 from foretongue.families import Family, from_sheet, sharings_of
 from foretongue.sheets import Sheet
 from tests.helper import ODD, bent_items, chances, error_of
-from tests.plain_mothers import beside, column, plain_mothers, some_whole_sheet
+from tests.plain_mothers import beside, check_errors, column, plain_mothers, some_whole_sheet
 from tests.test_dyeings import NONE
-from tests.test_mothers import GAPS
 
 FAMILY = Family(["c", "a", "b", "d"], [["b", "a"], ["b", "c"], ["c", "a", "b"]])
 SHEET = Sheet(["x", "y", "z"], [["ka", "ka", "ka"], ["ta", "ka", "ka"]])
@@ -51,7 +50,8 @@ class Making(unittest.TestCase):
         self.assertEqual(error_of(Family, FIVE + ["f"], None), ("TooMany", ("languages", 5)))
 
     def test_wrong_sharings(self):
-        for value in ODD + ["ab", ["ab"], [["a"]], [["a", "a"]], [["a", "x"]], [["a", "b"], None], [["a", None]], [["a", "b", "a"]],
+        for value in ODD + ["ab", ["ab"], [["a"]], [["a", "a"]], [["a", "x"]], [["a", "b"], None], [["a", None]],
+                            [["a", "b", "a"]],
                             [["a", ["b"]]], [[]], [{"a": 1, "b": 2}], [["a", "B"]]]:
             if value not in ([], ()):
                 self.assertEqual(error_of(Family, ["a", "b", "c"], value), ("BadFamily", ("sharings",)), value)
@@ -204,11 +204,7 @@ class OfSheets(unittest.TestCase):
 
     def test_wrong(self):
         for call in (sharings_of, from_sheet):
-            for value in ODD:
-                self.assertEqual(error_of(call, value, value, value), ("BadSheet", ("sheet",)))
-                self.assertEqual(error_of(call, GAPS, value, value), ("BadSheet", ("gaps",)))
-            for value in [2, -1, True, False, None, 1.0, "1", [1]]:
-                self.assertEqual(error_of(call, SHEET, value, value), ("BadNumber", ("width",)))
+            check_errors(self, call, False, 1)
             for value in ODD + NONE:
                 if value not in ([], ()):
                     self.assertEqual(error_of(call, SHEET, 1, value), ("BadDyeing", ("dyeing",)))

@@ -4,11 +4,7 @@ from foretongue.mothers import coarsest_mothers, many_mothers, mother_at, mother
 from foretongue.sheets import Sheet
 from foretongue.zero import zero
 from tests.helper import ODD, chances, error_of
-from tests.plain_mothers import all_dyeings, plain_mothers, size, some_whole_sheet
-
-GAPS = Sheet(["one", "two"], [["sa", None]])
-NINE = Sheet(["x"], [["a" * 9]])
-WRONG_SIZES = [0, 9, -1, True, False, None, 1.0, "1", [1]]
+from tests.plain_mothers import NINE, all_dyeings, check_errors, plain_mothers, size, some_whole_sheet
 
 
 def joins_of(dyeing):
@@ -74,6 +70,12 @@ class Mothers(unittest.TestCase):
                 self.assertEqual(error_of(mothers, sheet, 1, most), wanted)
         self.assertGreater(found, 0)
 
+    def test_just_400_mothers(self):
+        sheet = Sheet.read("x y z w : badca adabc adaad aaabc / daa cdd cad abc")
+        self.assertEqual((many_mothers(sheet, 1, 6), len(mothers(sheet, 1, 6))), (400, 400))
+        self.assertEqual(mothers(sheet, 1, 6), tuple(plain_mothers(sheet, 1, 6)))
+        self.assertEqual(error_of(mothers, sheet, 1, 7), ("TooMany", ("mothers", 400)))
+
     def test_exchanged_sounds_and_languages(self):
         for chance in chances(1740, 15):
             sheet = some_whole_sheet(chance, 6, languages=3)
@@ -86,16 +88,9 @@ class Mothers(unittest.TestCase):
     def test_wrong(self):
         for call in (mothers, many_mothers, mother_at, coarsest_mothers):
             more = {coarsest_mothers: 0, mother_at: 2}.get(call, 1)
-            for value in ODD:
-                self.assertEqual(error_of(call, value, value, *[value] * more), ("BadSheet", ("sheet",)))
-                self.assertEqual(error_of(call, GAPS, value, *[value] * more), ("BadSheet", ("gaps",)))
-            for value in [2, -1, True, False, None, 1.0, "1", [1]]:
-                self.assertEqual(error_of(call, NINE, value, *[value] * more), ("BadNumber", ("width",)))
-            if more:
-                for value in WRONG_SIZES:
-                    self.assertEqual(error_of(call, NINE, 1, *[value] * more), ("BadNumber", ("most",)))
+            check_errors(self, call, more > 0, max(0, more - 1))
             self.assertEqual(error_of(call, NINE, 1, *[1] * more), ("TooMany", ("places", 8)))
         for value in ODD:
             if type(value) is not int or value < 0 or value > 7:
-                self.assertEqual(error_of(mother_at, NINE.with_cell(0, "x", "a" * 9), 1, 8, value), ("TooMany", ("places", 8)))
+                self.assertEqual(error_of(mother_at, NINE, 1, 8, value), ("TooMany", ("places", 8)))
                 self.assertEqual(error_of(mother_at, Sheet(["x"], [["aaaa"]]), 1, 8, value), ("BadNumber", ("number",)))

@@ -3,9 +3,9 @@ from itertools import combinations
 
 from foretongue.refusing import Barring, Least, Mother, NoMother, barring_rows, least_size, mother_of
 from foretongue.sheets import Sheet
-from tests.helper import ODD, chances, error_of
-from tests.plain_mothers import mothers_of_rows, no_end, plain_mothers, plain_right_tree, size, some_whole_sheet
-from tests.test_mothers import GAPS, NINE, WRONG_SIZES
+from tests.helper import chances, error_of
+from tests.plain_mothers import (NINE, check_errors, mothers_of_rows, no_end, plain_mothers, plain_right_tree, size,
+                                 some_whole_sheet)
 
 
 def lots_of_rows(sheet):
@@ -99,13 +99,5 @@ class Refusing(unittest.TestCase):
 
     def test_wrong(self):
         for call in (mother_of, least_size, barring_rows):
-            more = 0 if call is least_size else 1
-            for value in ODD:
-                self.assertEqual(error_of(call, value, value, *[value] * more), ("BadSheet", ("sheet",)))
-                self.assertEqual(error_of(call, GAPS, value, *[value] * more), ("BadSheet", ("gaps",)))
-            for value in [2, -1, True, False, None, 1.0, "1", [1]]:
-                self.assertEqual(error_of(call, NINE, value, *[value] * more), ("BadNumber", ("width",)))
-            if more:
-                for value in WRONG_SIZES:
-                    self.assertEqual(error_of(call, NINE, 1, value), ("BadNumber", ("most",)))
-            self.assertEqual(error_of(call, NINE, 1, *[1] * more), ("TooMany", ("places", 8)))
+            check_errors(self, call, call is not least_size)
+            self.assertEqual(error_of(call, NINE, 1, *[1] * (call is not least_size)), ("TooMany", ("places", 8)))

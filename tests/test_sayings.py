@@ -3,10 +3,9 @@ import unittest
 from foretongue.sayings import AlikeRows, Both, Not, Same, Saying, Sizes, holds, told_of
 from foretongue.sheets import Sheet
 from tests.helper import ODD, bent_items, chances, error_of, wanted_index
-from tests.plain_mothers import all_dyeings, plain_holds, some_saying, some_whole_sheet
+from tests.plain_mothers import GAPS, all_dyeings, plain_holds, some_saying, some_whole_sheet
 
 SHEET = Sheet(["one", "two"], [["sa", "sa"], ["si", "zi"], ["a", "a"]])
-GAPS = Sheet(["one", "two"], [["sa", None]])
 CLASSES = (Same, AlikeRows, Sizes, Not, Both)
 
 
@@ -59,8 +58,9 @@ class Making(unittest.TestCase):
             self.assertEqual(~one & ~(one & other), Both(Not(one), Not(Both(one, other))))
 
     def test_equality(self):
-        told = [Same((0, 1), (2, 0)), Same((2, 0), (0, 1)), Same((0, 1), (2, 1)), AlikeRows(0, 1), AlikeRows(1, 0), Sizes(3),
-                Sizes(4), Not(Sizes(3)), Not(Sizes(4)), Both(Sizes(3), Sizes(4)), Both(Sizes(4), Sizes(3)), Not(Not(Sizes(3)))]
+        told = [Same((0, 1), (2, 0)), Same((2, 0), (0, 1)), Same((0, 1), (2, 1)), Same((1, 1), (2, 0)),
+                AlikeRows(0, 1), AlikeRows(1, 0), AlikeRows(0, 2), AlikeRows(2, 1), Both(Sizes(3), Sizes(5)),
+                Both(Sizes(5), Sizes(4)), Sizes(3), Sizes(4), Not(Sizes(3)), Not(Sizes(4)), Both(Sizes(3), Sizes(4)), Both(Sizes(4), Sizes(3)), Not(Not(Sizes(3)))]
         for at, one in enumerate(told):
             for to, other in enumerate(told):
                 self.assertIs(one == other, at == to)
@@ -70,7 +70,8 @@ class Making(unittest.TestCase):
                 self.assertFalse(one == value)
 
     def test_wrong_places(self):
-        for value in ODD + [(0,), (0, 0, 0), (-1, 0), (0, -1), (True, 0), [0, False], (0.0, 1), "00", ((0, 0), 0), {0: 0, 1: 1}]:
+        for value in ODD + [(0,), (0, 0, 0), (-1, 0), (0, -1), (True, 0), [0, False], (0.0, 1), "00", ((0, 0), 0),
+                            {0: 0, 1: 1}]:
             self.assertEqual(error_of(Same, value, value), ("BadSaying", ("place",)))
             self.assertEqual(error_of(Same, (0, 0), value), ("BadSaying", ("other",)))
         self.assertEqual(error_of(Same, [2, 3], [2, 3]), ("Twice", ((2, 3),)))
@@ -170,6 +171,8 @@ class Reading(unittest.TestCase):
         self.assertEqual(error_of(Saying.read, "not " * 16 + "size 1"), ("BadText", (0, 16)))
         self.assertEqual(error_of(Saying.read, "not " * 16 + "x"), ("BadText", (0, 16)))
         self.assertEqual(error_of(Saying.read, "not " * 15 + "both"), ("BadText", (0, 16)))
+        self.assertEqual(error_of(Saying.read, "not " * 15 + "both size 1 size 1"), ("BadText", (0, 16)))
+        self.assertEqual(error_of(Saying.read, "not " * 14 + "both size 1 size 1"), ("BadText", (0, 17)))
         self.assertEqual(error_of(Saying.read, "both " * 9), ("BadText", (0, 9)))
         self.assertEqual(error_of(Saying.read, ("both " * 16)[:-1]), ("BadText", (0, 16)))
         fifteen = str(wide_both(15))

@@ -6,9 +6,8 @@ from foretongue.sayings import AlikeRows, Not, Same, Sizes
 from foretongue.sheets import Sheet
 from foretongue.sureties import Rows, fewest_rows, pairs_told, sure_lots
 from tests.helper import ODD, chances, error_of
-from tests.plain_mothers import plain_holds, plain_mothers, plain_right_tree, some_saying, some_whole_sheet
+from tests.plain_mothers import NINE, check_errors, plain_holds, plain_mothers, plain_right_tree, some_saying, some_whole_sheet
 from tests.test_answers import aim, errors_of_saying, impossible
-from tests.test_mothers import GAPS, NINE, WRONG_SIZES
 
 
 def sets_asked(sheet, saying):
@@ -80,13 +79,7 @@ class Pairs(unittest.TestCase):
 
     def test_wrong(self):
         for call in (pairs_told, sure_lots):
-            for value in ODD:
-                self.assertEqual(error_of(call, value, value, value), ("BadSheet", ("sheet",)))
-                self.assertEqual(error_of(call, GAPS, value, value), ("BadSheet", ("gaps",)))
-            for value in [2, -1, True, False, None, 1.0, "1", [1]]:
-                self.assertEqual(error_of(call, NINE, value, value), ("BadNumber", ("width",)))
-            for value in WRONG_SIZES:
-                self.assertEqual(error_of(call, NINE, 1, value), ("BadNumber", ("most",)))
+            check_errors(self, call, True)
             self.assertEqual(error_of(call, NINE, 1, 1), ("TooMany", ("places", 8)))
 
 

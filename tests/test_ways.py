@@ -103,6 +103,13 @@ class Ways(unittest.TestCase):
         self.assertEqual(one_way(told, "ac").word, parting_word(told, told.orders, "ac"))
         self.assertEqual(len(one_way(told, "ac").word), 5)
 
+    def test_three_shifts_and_seven_sounds(self):
+        shifts = [Shift("a", "b", "c", "c"), Shift("c", "d", "b", "b"), Shift("b", "f", "d", "d")]
+        told = Pairs(shifts, [("cacac", "cbdbc")])
+        self.assertEqual(one_way(told, "ac"), TwoWays((0, 1, 2), (0, 2, 1), "cacacac"))
+        self.assertEqual(alike_orders(told, "ac"), (((0, 1, 2),), ((0, 2, 1), (2, 0, 1))))
+        self.assertEqual(probe(told, "ac", 4), ())
+
     def test_wrong(self):
         for call, more in ((one_way, 0), (alike_orders, 0), (probe, 1)):
             for value in ODD:

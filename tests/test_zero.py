@@ -5,9 +5,8 @@ from foretongue.check_zero import shows_telling, shows_zero
 from foretongue.sheets import Sheet
 from foretongue.zero import Telling, ZeroMother, compared, fewest_languages, sheet_from, zero, zero_mother
 from tests.helper import ODD, bent_parts, chances, error_of, lists_for_tuples, strangers
-from tests.plain_mothers import column, plain_mothers, size, some_whole_sheet, tuples
+from tests.plain_mothers import GAPS, column, plain_mothers, size, some_whole_sheet, tuples
 
-GAPS = Sheet(["one", "two"], [["sa", None]])
 SHEET = Sheet(["one", "two"], [["sa", "sa"], ["si", "zi"]])
 
 
