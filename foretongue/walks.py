@@ -88,7 +88,7 @@ def order_for(grounds, cuts):
     """All places, those of the claims and their neighbours ahead: so claims are settled soon."""
     told = [place for claim, _ in cuts for place in places_of_claim(claim)]
     beside = [place for number in told for place in grounds.neighbours[number] if place is not None]
-    return list({place: True for place in [*told, *beside, *range(grounds.many)]})
+    return list({place: True for place in told + beside + list(range(grounds.many))})
 
 
 def numbered(sounds):
