@@ -7,7 +7,7 @@ from foretongue.mothers import need_few_places, need_told
 from foretongue.papers import Denial, Paper
 from foretongue.refusing import told_mother
 from foretongue.sayings import need_saying
-from foretongue.walks import mother_beside, tree_of
+from foretongue.walks import mother_beside, refusing_tree
 
 MOST_AT_ONCE = 6
 
@@ -79,9 +79,9 @@ def told_answer(sheet, width, most, saying):
     if one is None and other is None:
         raise Impossible(told_mother(sheet, width, most))
     if other is None:
-        return Sure(tree_of(grounds, most, [(claim, True)]))
+        return Sure(refusing_tree(grounds, most, [(claim, True)]))
     if one is None:
-        return Never(tree_of(grounds, most, [(claim, False)]))
+        return Never(refusing_tree(grounds, most, [(claim, False)]))
     return Open(one, other)
 
 
@@ -125,4 +125,4 @@ def kept_at_once(sheet, width, most, sayings):
     if len(numbers) == 0:
         raise Impossible(told_mother(sheet, width, most))
     others = [mother_beside(grounds, most, cuts_of(claims, others_of(numbers, number))) for number in numbers]
-    return Clash(numbers, tree_of(grounds, most, cuts_of(claims, numbers)), others)
+    return Clash(numbers, refusing_tree(grounds, most, cuts_of(claims, numbers)), others)

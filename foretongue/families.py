@@ -95,6 +95,12 @@ def need_sharing_numbers(family, numbers):
     need_once(numbers)
 
 
+def need_family(value, part):
+    """BadFamily for what is no family."""
+    if not isinstance(value, Family):
+        raise BadFamily(part)
+
+
 def family_languages_from(items):
     """The list of the languages that stand ahead, ascending, up to `:`."""
     languages = []

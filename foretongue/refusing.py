@@ -6,7 +6,7 @@ from foretongue.lots import lots_of_size
 from foretongue.mothers import need_asked, need_few_places
 from foretongue.papers import Denial, Paper
 from foretongue.sheets import need_whole
-from foretongue.walks import least_mother, tree_of
+from foretongue.walks import least_mother, refusing_tree
 
 
 class Mother(Paper):
@@ -46,7 +46,7 @@ def told_mother(sheet, width, most):
     grounds = Grounds(sheet, width)
     dyeing = least_mother(grounds, most)
     if dyeing is None:
-        return NoMother(tree_of(grounds, most, []))
+        return NoMother(refusing_tree(grounds, most, []))
     return Mother(dyeing)
 
 
@@ -68,7 +68,7 @@ def least_size(sheet, width):
     while dyeing is None:
         most += 1
         dyeing = least_mother(grounds, most)
-    return Least(dyeing, None if most == 1 else tree_of(grounds, most - 1, []))
+    return Least(dyeing, None if most == 1 else refusing_tree(grounds, most - 1, []))
 
 
 def least_of_rows(sheet, width, most, rows):
@@ -100,5 +100,5 @@ def barring_rows(sheet, width, most):
     if told:
         return told
     rows = first_barring_rows(sheet, width, most)
-    tree = tree_of(Grounds(sheet.of_rows(rows), width), most, [])
+    tree = refusing_tree(Grounds(sheet.of_rows(rows), width), most, [])
     return Barring(rows, tree, [least_of_rows(sheet, width, most, left) for left in rows_left(rows)])

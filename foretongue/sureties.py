@@ -9,7 +9,7 @@ from foretongue.lots import lots_below
 from foretongue.mothers import need_asked, need_few_places
 from foretongue.papers import Paper
 from foretongue.refusing import told_mother
-from foretongue.walks import least_mother, mother_beside, tree_of
+from foretongue.walks import least_mother, mother_beside, refusing_tree
 
 MOST_ROWS = 5
 
@@ -90,7 +90,7 @@ def sure_tree(sheet, width, most, saying, rows):
     """A tree for a saying that is sure of the sheet of these rows."""
     part = sheet.of_rows(rows)
     claim = saying.told_by(rows).claim_in(part)
-    return tree_of(Grounds(part, width), most, [(claim, True)])
+    return refusing_tree(Grounds(part, width), most, [(claim, True)])
 
 
 def fewest_rows(sheet, width, most, saying):

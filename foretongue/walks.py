@@ -119,6 +119,6 @@ def mother_beside(grounds, most, cuts):
     return numbered(found[0]) if len(found) > 0 else None
 
 
-def tree_of(grounds, most, cuts):
+def refusing_tree(grounds, most, cuts):
     """A tree that refuses all that the cuts leave, if no such mother is there."""
     return Walk(grounds, most, cuts, order_for(grounds, cuts)).tree_below(0)
