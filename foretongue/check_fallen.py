@@ -9,7 +9,7 @@ from foretongue.papers import is_called
 from foretongue.rooms import Rooms, is_couple, need_rooms
 
 
-def is_shut(course, stock, couples):
+def is_shut_list(course, stock, couples):
     """Whether a value is a shut list of couples of rooms of the stock."""
     if not is_list(couples) or not all([is_couple(course, stock, couple) for couple in couples]):
         return False
@@ -37,7 +37,7 @@ def shows_fallen(course, stock, value):
     need_stock(stock, "stock")
     need_rooms(course, stock)
     if isinstance(value, LeadsBack) and is_called(value, "LeadsBack"):
-        return is_shut(course, stock, value.couples)
+        return is_shut_list(course, stock, value.couples)
     if isinstance(value, Fallen) and is_called(value, "Fallen"):
         return have_fallen(course, stock, value)
     return False

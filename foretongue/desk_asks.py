@@ -30,7 +30,8 @@ def names_told(shelf, told):
 def shown(shelf, told):
     """The kind and the text of a thing."""
     thing = shelf.thing(told[0])
-    return f"{SHEET if isinstance(thing, Sheet) else COURSE} {thing}"
+    kind = SHEET if isinstance(thing, Sheet) else COURSE
+    return f"{kind} {thing}"
 
 
 def width_told(shelf, told):

@@ -100,16 +100,19 @@ def thing_from(items, at):
     raise BadText(0, at)
 
 
+def others_from(items, at, sort):
+    """The list of what all items from an index on stand for, told the sort that takes them all."""
+    if sort == "thing":
+        return [thing_from(items, at)]
+    return several_from(items, at, "number" if sort == "numbers" else "cell")
+
+
 def line_from(items, sorts):
     """The list of the first item of a line, and of what the others stand for, told their sorts."""
     told = [items[0]]
     for at, sort in enumerate(sorts, start=1):
-        if sort == "numbers":
-            return [*told, *several_from(items, at, "number")]
-        if sort == "cells":
-            return [*told, *several_from(items, at, "cell")]
-        if sort == "thing":
-            return [*told, thing_from(items, at)]
+        if sort in ("numbers", "cells", "thing"):
+            return told + others_from(items, at, sort)
         told.append(one_from(items, at, sort))
     need_end(items, 1 + len(sorts))
     return told

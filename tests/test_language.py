@@ -54,6 +54,21 @@ def top_names(tree):
             yield node.targets[0].id
 
 
+def is_table_of_functions(tree, node):
+    """Whether an assignment gives a name a dict of literal keys and of functions that are defined above it."""
+    above = {told.name for told in tree.body if isinstance(told, ast.FunctionDef) and told.lineno < node.lineno}
+    if not isinstance(node.value, ast.Dict) or not all(isinstance(key, ast.Constant) for key in node.value.keys):
+        return False
+    return all(isinstance(value, ast.Name) and value.id in above for value in node.value.values)
+
+
+def names_own_error(tree, handler):
+    """Whether a handler names an error class of the package."""
+    imported = [alias.name for node in tree.body if isinstance(node, ast.ImportFrom)
+                and node.module == "foretongue.errors" for alias in node.names]
+    return isinstance(handler.type, ast.Name) and handler.type.id in imported
+
+
 class Language(unittest.TestCase):
     def test_files(self):
         stray = [path for path in PACKAGE.rglob("*") if path.suffix != ".py" and "__pycache__" not in path.parts]
@@ -82,7 +97,7 @@ class Language(unittest.TestCase):
                 is_value = isinstance(node, ast.Assign) and len(node.targets) == 1
                 known = (ast.ImportFrom, ast.FunctionDef, ast.ClassDef)
                 self.assertTrue(is_docstring or is_value or isinstance(node, known), (path, node.lineno))
-                if is_value:
+                if is_value and not is_table_of_functions(tree, node):
                     ast.literal_eval(node.value)
 
     def test_imports(self):
@@ -140,15 +155,18 @@ class Language(unittest.TestCase):
         for path, tree in trees():
             for node in tree.body:
                 if isinstance(node, (ast.FunctionDef, ast.ClassDef)):
-                    self.assertNotIn(node.name, places, (path, places.get(node.name)))
+                    self.assertFalse(node.name in places, (path, node.name, places.get(node.name)))
                     places[node.name] = path
 
     def test_no_other_syntax(self):
-        barred = (ast.Global, ast.Nonlocal, ast.AsyncFunctionDef, ast.GeneratorExp, ast.Yield, ast.YieldFrom, ast.Try,
+        barred = (ast.Global, ast.Nonlocal, ast.AsyncFunctionDef, ast.GeneratorExp, ast.Yield, ast.YieldFrom,
                   ast.With, ast.Match, ast.NamedExpr, ast.AnnAssign, ast.Div, ast.MatMult, ast.Delete)
         for path, tree in trees():
             for node in ast.walk(tree):
                 self.assertNotIsInstance(node, barred, (path, getattr(node, "lineno", 0)))
+                if isinstance(node, ast.Try):
+                    self.assertTrue(all(names_own_error(tree, handler) for handler in node.handlers), path)
+                    self.assertEqual((node.orelse, node.finalbody), ([], []), path)
                 if isinstance(node, ast.Constant):
                     self.assertNotIsInstance(node.value, (float, complex))
                 if isinstance(node, ast.Compare):
