@@ -1,10 +1,11 @@
 """Plain readings of what the document says of gaps, by a listing of all fillings."""
 
+from functools import lru_cache
 from itertools import combinations, product
 
 from foretongue.errors import TongueError
 from foretongue.sheets import Sheet
-from tests.plain_mothers import plain_holds, plain_mothers
+from tests.plain_mothers import plain_holds, plain_mothers, size
 
 LETTERS = "abcdefghijklmnopqrstuvwxyz"
 WHOLE = Sheet(["one", "two"], [["sa", "sa"], ["si", "zi"]])
@@ -86,15 +87,24 @@ def count_signs(total, standing):
 def plain_filled(sheet, cells):
     rows = [list(row) for row in sheet.rows]
     for (row, language), cell in zip(sheet.gaps, cells):
-        new = [letter for letter in LETTERS if letter not in known(sheet, language)]
+        have = known(sheet, language)
+        new = [letter for letter in LETTERS if letter not in have]
         made = "".join(new[int(sign)] if sign.isdigit() else sign for sign in cell)
         rows[row][sheet.languages.index(language)] = made
     return Sheet(sheet.languages, rows)
 
 
+@lru_cache(maxsize=None)
+def mothers_by_filling(text, width):
+    """The list of all loose fillings of the sheet with this text, each with all mothers of its whole sheet."""
+    sheet = Sheet.read(text)
+    return [(cells, plain_mothers(plain_filled(sheet, cells), width)) for cells in all_loose(sheet)]
+
+
 def plain_standing(sheet, width, most):
     """The dict of the loose fillings that can stand, each with all its mothers."""
-    told = {cells: plain_mothers(plain_filled(sheet, cells), width, most) for cells in all_loose(sheet)}
+    told = {cells: [dyeing for dyeing in found if size(dyeing) <= most]
+            for cells, found in mothers_by_filling(str(sheet), width)}
     return {cells: found for cells, found in told.items() if found}
 
 
@@ -119,7 +129,7 @@ def tells_apart(sheet, standing, lot):
 
 def word_over(sheet, saying, standing, group):
     """Whether a saying is sure, never or open over all mothers of some loose fillings."""
-    told = {plain_holds(saying, plain_filled(sheet, cells), dyeing) for cells in group for dyeing in standing[cells]}
+    told = {plain_holds(saying, sheet, dyeing) for cells in group for dyeing in standing[cells]}
     return "open" if len(told) > 1 else "sure" if True in told else "never"
 
 
