@@ -1,7 +1,9 @@
 import unittest
 
-from foretongue import alike, answers, befores, fallen, fates, idle, met, orders, refusing, sureties, ways, zero
+from foretongue import (alike, answers, asking, befores, crossings, fallen, fates, gaps, idle, met, orders, refusing, rules,
+                        strangers, sureties, trees, ways, within, zero)
 from foretongue.papers import Denial, Paper, fixed
+from tests.helper import chances
 
 CLASSES = [
     (met.Feeds, "feeds", ["word", "place"], Paper),
@@ -34,7 +36,55 @@ CLASSES = [
     (befores.Loose, "loose", ["pairs", "order"], Denial),
     (ways.OneWay, "oneway", ["orders"], Paper),
     (ways.TwoWays, "twoways", ["first", "second", "word"], Denial),
+    (trees.Tree, "tree", ["sets"], Paper),
+    (trees.Crossing, "crossing", ["one", "other"], Denial),
+    (crossings.Struck, "struck", ["numbers", "tree"], Paper),
+    (crossings.Best, "best", ["sets", "many"], Paper),
+    (strangers.Strangers, "strangers", ["rows", "dyeing", "bars"], Paper),
+    (strangers.Layers, "layers", ["rows", "one", "other"], Paper),
+    (strangers.NoLayers, "nolayers", ["bars"], Denial),
+    (within.OneRule, "onerule", ["one", "other"], Paper),
+    (within.Against, "against", ["one", "other"], Denial),
+    (rules.Ruled, "ruled", ["rows"], Paper),
+    (rules.Split, "split", ["one", "other"], Denial),
+    (gaps.Filled, "filled", ["cells", "dyeing"], Paper),
+    (gaps.ForcedCell, "forcedcell", ["cell"], Paper),
+    (gaps.OpenCell, "opencell", ["cells"], Paper),
+    (gaps.NoFilling, "nofilling", [], Denial),
+    (asking.Ask, "ask", ["row", "language", "left"], Paper),
+    (asking.Key, "key", ["gaps"], Paper),
+    (asking.Tells, "tells", ["sure", "never", "either"], Paper),
+    (asking.Settled, "settled", ["gaps"], Paper),
 ]
+
+
+def some_value(chance, deep):
+    """A list, a tuple, a text, an integer, None, True or a paper, up to so deep."""
+    way = chance.randrange(9 if deep else 5)
+    if way < 5:
+        return [None, True, chance.randrange(-2, 3), chance.choice(["", "a", "1"]), 10 ** 20][way]
+    parts = [some_value(chance, deep - 1) for _ in range(chance.randrange(4))]
+    if way < 7:
+        return parts if way == 5 else tuple(parts)
+    return (Paper if way == 7 else Denial)(chance.choice(["note", "x"]), *parts)
+
+
+def spread_out(value):
+    """A value that is equal just to values that are equal with it, tuples and lists taken for one another."""
+    if isinstance(value, (list, tuple)):
+        return ["tuple", *map(spread_out, value)]
+    if isinstance(value, Paper):
+        return [type(value).__name__, value.kind, *map(spread_out, value.parts)]
+    return value
+
+
+def changed_lists(value):
+    """Changes each list in a value, all the way in."""
+    if isinstance(value, (list, tuple)):
+        for part in value:
+            changed_lists(part)
+    if isinstance(value, list):
+        value.append("changed")
 
 
 class Papers(unittest.TestCase):
@@ -90,6 +140,40 @@ class Papers(unittest.TestCase):
             self.assertNotEqual(paper, Paper(kind, *values))
             self.assertNotEqual(Paper(kind, *values), paper)
             self.assertNotEqual(paper, Denial(kind, *values))
+
+    def test_every_class_of_papers_is_here(self):
+        told = {made for made, _, _, _ in CLASSES}
+        below = [made for base in (Paper, Denial) for made in base.__subclasses__()
+                 if made is not Denial and made.__module__.startswith("foretongue.")]
+        self.assertEqual({made for made in below if not made.__name__.startswith("Below")}, told)
+        self.assertEqual(len(CLASSES), 49)
+        self.assertEqual(len({kind for _, kind, _, _ in CLASSES}), 49)
+
+    def test_any_parts(self):
+        for chance in chances(9600, 150):
+            made, kind, names, _ = chance.choice(CLASSES)
+            values = [some_value(chance, 5) for _ in names]
+            wanted = [spread_out(value) for value in values]
+            one, other = made(*values), made(**dict(zip(names, values)))
+            self.assertEqual(one, other)
+            self.assertEqual((one.kind, one.parts), (kind, fixed(values)))
+            for value in values:
+                changed_lists(value)
+            self.assertEqual([spread_out(part) for part in one.parts], wanted)
+            self.assertEqual([spread_out(getattr(one, name)) for name in names], wanted)
+            self.assertEqual(one, other)
+
+    def test_equal_just_with_equal_parts(self):
+        equal = 0
+        for chance in chances(9610, 400):
+            made = chance.choice([made for made, _, names, _ in CLASSES if len(names) == 1])
+            one, other = (some_value(chance, 2) for _ in range(2))
+            wanted = spread_out(one) == spread_out(other)
+            equal += wanted
+            self.assertIs(made(one) == made(other), wanted)
+            self.assertIs(made(one) != made(other), not wanted)
+            self.assertIs(Paper("x", one) == Paper("x", other), wanted)
+        self.assertGreater(equal, 20)
 
     def test_papers_of_two_classes_are_unequal(self):
         self.assertNotEqual(met.Feeds("ka", 0), met.Bars("ka", 0))
