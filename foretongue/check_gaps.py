@@ -76,7 +76,7 @@ def is_gap(sheet, value):
     """Whether a value is a gap of the sheet, told as a pair."""
     if not is_list(value) or len(value) != 2 or not is_integer(value[0]):
         return False
-    return isinstance(value[1], str) and tuple(value) in sheet.gaps
+    return tuple(value) in sheet.gaps
 
 
 def shows_ask(sheet, width, most, value):

@@ -1,6 +1,6 @@
 """Family trees: which ones a family has, or two sharings that cross."""
 
-from foretongue.checks import is_list, is_name
+from foretongue.checks import is_list
 from foretongue.columns import pairs_of_places
 from foretongue.families import need_family, need_family_languages
 from foretongue.lots import lots_below
@@ -43,7 +43,7 @@ def is_set_of(value, languages):
     """Whether a value is an ascending list of two or more of some languages."""
     if not is_list(value) or len(value) < 2:
         return False
-    if not all([is_name(name) and name in languages for name in value]):
+    if not all([name in languages for name in value]):
         return False
     return all([one < other for one, other in zip(value, value[1:])])
 

@@ -117,6 +117,11 @@ class Gaps(unittest.TestCase):
                         others = {cells[:at] + cells[at + 1:] for cells in standing for at in [number]}
                         self.assertLessEqual({one.cells for one in fillings(left, width, most)}, others)
 
+    def test_cells_ascend(self):
+        self.assertEqual(tells(TWO, 1, 2, Sizes(1), 1, "one"), Tells(["s", "t"], [], []))
+        self.assertEqual(tells(TWO, 1, 2, Sizes(3), 1, "one"), Tells([], ["s", "t"], []))
+        self.assertEqual(tells(TWO, 1, 2, Sizes(1), 0, "two"), Tells(["-", "0", "z"], [], []))
+
     def test_two_gaps_tell(self):
         sheet = Sheet(["one", "two"], [["s", None], ["t", None], ["u", "z"]])
         self.assertEqual(key_gaps(sheet, 1, 3), Key([(0, "two"), (1, "two")]))

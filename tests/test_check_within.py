@@ -165,6 +165,15 @@ class CheckRules(unittest.TestCase):
                     self.assertIs(shows_rule(words, "k", "c", wide, made(*bent)), wanted, bent)
         self.assertIs(shows_rule(["ke", "ce"], "k", "c", 1, OneRule([("#", "e")], [("#", "e")])), False)
 
+    def test_places_from_behind(self):
+        self.assertIs(shows_rule(["k", "c"], "k", "c", 1, Against((0, 0), (1, 0))), True)
+        for one, other in [((0, -1), (1, 0)), ((0, 0), (1, -1)), ((-2, 0), (1, 0)), ((0, 0), (-1, 0)), ((0, 1), (1, 0)),
+                           ((0, 0), (2, 0))]:
+            self.assertIs(shows_rule(["k", "c"], "k", "c", 1, Against(one, other)), False)
+        for one, other in [(("k", -1), ("c", 0)), (("k", 0), ("c", -1)), (("k", 1), ("c", 0)), (("k", 0), ("c", 1))]:
+            self.assertIs(shows_split(Course([]), "ck", "k", "c", Split(one, other)), False)
+        self.assertIs(shows_split(Course([]), "ck", "k", "c", Split(("k", 0), ("c", 0))), True)
+
     def test_more_words_than_are_asked(self):
         self.assertIs(shows_rule(["k"] * 13 + ["c"], "c", "k", 1, Against((13, 0), (12, 0))), True)
         self.assertIs(shows_rule(["k"] * 13, "c", "k", 1, OneRule([], [("#", "#")])), True)

@@ -3,6 +3,7 @@ from itertools import product
 
 from foretongue.errors import Impossible
 from foretongue.gaps import Filled, ForcedCell, NoFilling, OpenCell, cell_of, filled, fillings, loose
+from foretongue.loose_cells import many_fillings
 from foretongue.refusing import Mother, mother_of
 from foretongue.sheets import Sheet
 from foretongue.zero import zero
@@ -171,11 +172,17 @@ class WhatCanStand(unittest.TestCase):
                            ("a b : sss . / s a", 37), ("a b : ss . / ss ab / a -", 17), ("a b : sss . / ss ab", 77),
                            ("a b : s . / . s / . s / s .", 100), ("a b : s . / . s", 9)]:
             sheet = Sheet.read(text)
-            self.assertEqual(count_fillings(sheet), many)
+            self.assertEqual((many_fillings(sheet), count_fillings(sheet)), (many, many))
             if many <= 60:
                 self.assertEqual(len(fillings(sheet, 0, 8)), many)
             else:
                 self.assertEqual(error_of(fillings, sheet, 0, 1), ("TooMany", ("fillings", 60)))
+
+    def test_counts(self):
+        for chance in chances(8070, 60):
+            sheet = some_gapped(chance, 3, 6)
+            self.assertEqual(many_fillings(sheet), count_fillings(sheet))
+        self.assertEqual(many_fillings(Sheet(["a", "b", "c"], [["a" * 8, None, None]])), 21147 ** 2)
 
     def test_counted_ahead_not_listed(self):
         sheet = Sheet(["one", "two"], [["abcdefgh", None]])

@@ -70,6 +70,8 @@ class Trees(unittest.TestCase):
             self.assertIs(is_tree(["a", "b"], value), False)
             self.assertIs(is_tree(["a"], value), value in ([], ()))
         self.assertIs(is_tree(["b", "a"], [["a", "b"]]), True)
+        for value in [[["a", "b", "c"], ["a", "b", "c", "x"]], [["a", "b", "c"], ["x", "y"]], [["a", "b", "c"], ["b", "x"]]]:
+            self.assertIs(is_tree(["a", "b", "c"], value), False)
 
     def test_a_family_has_them(self):
         kinds = set()
