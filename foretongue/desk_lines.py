@@ -135,7 +135,7 @@ def ask_from(line):
 
 
 def is_ask(line):
-    """Whether a value is a line with the first item of an ask line alone, or alone as an ask line is."""
+    """Whether a line is an ask line by its first item; `width` and `most` are so if nothing stands behind."""
     items = items_of(line)
     return items[0] in ASK_SORTS and (items[0] not in DEED_SORTS or len(items) == 1)
 

@@ -9,7 +9,7 @@ from foretongue.fates import fate_at
 from foretongue.histories import aligned, history_sheet, own_dyeing
 from foretongue.sheets import Sheet
 from foretongue.shifts import Shift
-from foretongue.trees import Crossing, many_trees, tree_of
+from foretongue.trees import Crossing, all_trees, many_trees, tree_at, tree_of
 from tests.helper import ODD, chances, error_of, plain_done, signs_match, some_course
 
 LETTERS = "achik"
@@ -170,6 +170,35 @@ class FallingTogether(unittest.TestCase):
         self.assertEqual(family.sharings, (("p", "q"), ("p", "q", "r", "s")))
         self.assertEqual((bool(tree_of(family)), many_trees(family)), (True, 3))
         self.assertTrue(tree_of(from_sheet(sheet, 0, dyeing)))
+
+    def test_fallings_of_any_tree(self):
+        crossed = 0
+        for chance in chances(9070, 60):
+            languages = chance.sample("pqrs", chance.randrange(2, 5))
+            tree = chance.choice(all_trees(languages))
+            pairs = dict(zip(["ab", "cd", "ef"], tree))
+            words = [letter for pair in pairs for letter in pair]
+            sheet, dyeing = self.fallen_in(languages, words, pairs)
+            self.assertEqual({row[0] for row in sharings_of(sheet, 1, dyeing)}, set(tree))
+            family = from_sheet(sheet, 1, dyeing)
+            self.assertIn(tree, [tree_at(family, number) for number in range(many_trees(family))])
+            # One language alone goes its own way: it does not fall together with the others of one set.
+            stray = {**pairs, chance.choice(list(pairs)): tuple(sorted(chance.sample(languages, 2)))}
+            sheet, dyeing = self.fallen_in(languages, words, stray)
+            told = sharings_of(sheet, 1, dyeing)
+            self.assertEqual({row[0] for row in told}, set(stray.values()))
+            answer = tree_of(from_sheet(sheet, 1, dyeing))
+            if not answer:
+                crossed += 1
+                for number in answer.parts:
+                    shared, place, other = told[number]
+                    self.assertEqual(stray["".join(words[at] for at in (place, other))], shared)
+        self.assertGreater(crossed, 5)
+
+    def fallen_in(self, languages, words, pairs):
+        """The sheet in which each pair of sounds falls together in its languages, and the own dyeing."""
+        courses = [Course([Shift(*pair) for pair, told in pairs.items() if name in told]) for name in languages]
+        return history_sheet(languages, courses, words), own_dyeing(words)
 
     def test_a_language_that_went_its_own_way_crosses(self):
         low, high = Shift("a", "c"), Shift("h", "k")

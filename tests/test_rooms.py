@@ -121,7 +121,7 @@ class Rooms(unittest.TestCase):
     def test_wrong_couples(self):
         one = Course([Shift("a", "b")])
         odd = [("ab", "aa"), ("#", "aa"), ("#a", "aa"), ("#", "#a"), ("a", "b"), ("aa", "ac"), ("aa",), ("aa", "ab", "bb"),
-               "ab", ("#b", "#a"), ["aa", None], [1, 2], ("aaa", "aab"), "##", {"aa": 1, "ab": 2}, ("#ab", "#ab"), ("#a", "#z")]
+               "ab", ("#b", "#a"), ["aa", None], [None, "aa"], [1, 2], ("aaa", "aab"), "##", {"aa": 1, "ab": 2}, ("#ab", "#ab"), ("#a", "#z")]
         for call in (next_couples, ends_alike):
             for value in ODD:
                 self.assertEqual(error_of(call, value, value, value), ("BadCourse", ("course",)))

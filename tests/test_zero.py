@@ -139,6 +139,11 @@ class Words(unittest.TestCase):
                 self.assertEqual(error_of(sheet_from, ["a"], [[9]], value), ("BadSheet", ("columns",)), value)
         self.assertEqual(error_of(sheet_from, ["a"], [[0]], []), ("Misfit", ("columns",)))
         self.assertEqual(error_of(sheet_from, ["a"], [[0], [2]], [["a"], ["b"]]), ("Misfit", ("columns",)))
+        self.assertEqual(error_of(sheet_from, ["a"], [[0, 2, 1]], [["a"], ["b"]]), ("Misfit", ("columns",)))
+        for value in [[[0, -1]], [[0], [-1, 0]]]:
+            self.assertEqual(error_of(sheet_from, ["a"], value, None), ("BadSheet", ("words",)))
+        for value in [[["a", "ab"]], [["a", None]], [["a", "b"], ["", "a"]]]:
+            self.assertEqual(error_of(sheet_from, ["a", "b"], [[0]], value), ("BadSheet", ("columns",)))
         five = list("abcde")
         self.assertEqual(error_of(sheet_from, five, [[0]], [five[:4]]), ("BadSheet", ("columns",)))
         self.assertEqual(error_of(sheet_from, five, [[1]], [five]), ("Misfit", ("columns",)))
